@@ -1,0 +1,132 @@
+"""What the tests share: forms made of plain rows, and the document's words gone through by brute force."""
+
+import time
+
+BOOK_MARK = [70, 75, 69, 49]
+MOLECULE_MARK = [70, 75, 77, 49]
+
+# How long a person would wait, in seconds; the calls are meant to take far less.
+PATIENCE = 5
+
+
+def low_first(value, size):
+    """A number's bytes, the lowest first."""
+    return list(value.to_bytes(size, "little"))
+
+
+def entry_bytes(element, isotope, mass):
+    return [element] + low_first(isotope, 2) + low_first(mass, 8)
+
+
+def book_form(entries):
+    """A book's form; an entry is (element, isotope, mass)."""
+    form = BOOK_MARK + low_first(len(entries), 2)
+    for entry in entries:
+        form += entry_bytes(*entry)
+    return form
+
+
+def atom(element=6, isotope=0, charge=0, hydrogens=0, hand=0):
+    return (element, isotope, charge, hydrogens, hand)
+
+
+def molecule_form(atoms, bonds=()):
+    """A molecule's form; an atom is made by atom(), a bond is (a, b, order) or (a, b, order, side)."""
+    form = MOLECULE_MARK + [len(atoms), len(bonds)]
+    for element, isotope, charge, hydrogens, hand in atoms:
+        form += [element] + low_first(isotope, 2) + [charge + 4, hydrogens, hand]
+    for bond in bonds:
+        form += list(bond) + [0] * (4 - len(bond))
+    return form
+
+
+def hand_place(number):
+    """Where an atom's hand stands in its molecule's form."""
+    return 6 + 6 * number + 5
+
+
+def bond_place(atoms, number, within=0):
+    """Where a bond of a molecule of so many atoms stands: its a, or with 1, 2, 3 its b, order, side."""
+    return 6 + 6 * atoms + 4 * number + within
+
+
+def faulty(rule, place):
+    return [-5, 0, rule, place]
+
+
+def redrawings(atoms, bonds):
+    """All rows of orders that give each of so many atoms its sum; a bond is (a, b, order, ..)."""
+    left = [0] * atoms
+    due = [0] * atoms
+    for a, b, order in [bond[:3] for bond in bonds]:
+        left[a] += order
+        left[b] += order
+        due[a] += 1
+        due[b] += 1
+    rows = []
+    fill_orders(bonds, left, due, [], rows)
+    return rows
+
+
+def fill_orders(bonds, left, due, orders, rows):
+    if len(orders) == len(bonds):
+        rows.append(tuple(orders))
+        return
+    a, b = bonds[len(orders)][:2]
+    for order in (1, 2, 3):
+        for end in (a, b):
+            left[end] -= order
+            due[end] -= 1
+        if all(due[end] <= left[end] <= 3 * due[end] for end in (a, b)):
+            fill_orders(bonds, left, due, orders + [order], rows)
+        for end in (a, b):
+            left[end] += order
+            due[end] += 1
+
+
+def is_fixed(atoms, bonds, number):
+    return len({orders[number] for orders in redrawings(atoms, bonds)}) == 1
+
+
+def first_hand_fault(atoms, bonds):
+    for number, (_, _, _, hydrogens, hand) in enumerate(atoms):
+        joined = sum(number in bond[:2] for bond in bonds)
+        fits = joined in (3, 4) and hydrogens in (0, 1) and joined + hydrogens in (3, 4)
+        if hand and not fits:
+            return hand_place(number)
+    return None
+
+
+def first_side_fault(atoms, bonds):
+    for number, (a, b, order, side) in enumerate(bonds):
+        fits = order == 2
+        for end in (a, b):
+            others = sum(end in bond[:2] for bond in bonds) - 1
+            fits = fits and others in (1, 2) and others + atoms[end][3] <= 2
+        if side and not (fits and is_fixed(len(atoms), bonds, number)):
+            return bond_place(len(atoms), number, 3)
+    return None
+
+
+def formula_told(atoms, bonds):
+    """What formula must answer for a molecule whose numbers are all in bounds and whose bonds rise."""
+    place = first_hand_fault(atoms, bonds)
+    if place is not None:
+        return faulty(4, place)
+    place = first_side_fault(atoms, bonds)
+    if place is not None:
+        return faulty(6, place)
+    units = [unit[:2] for unit in atoms]
+    for unit in atoms:
+        units += [(1, 0)] * unit[3]
+    row = []
+    for unit in sorted(set(units)):
+        row += [unit[0], unit[1], units.count(unit)]
+    return [0, len(row)] + row
+
+
+def timed(call, argument):
+    """What a call answers, and how many seconds it took."""
+    start = time.perf_counter()
+    answer = call(argument)
+    return answer, time.perf_counter() - start
