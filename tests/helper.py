@@ -1,9 +1,15 @@
 """What the tests share: forms made of plain rows, and the document's words gone through by brute force."""
 
+import itertools
 import time
 
 BOOK_MARK = [70, 75, 69, 49]
 MOLECULE_MARK = [70, 75, 77, 49]
+MOST_MASS = 2 ** 40
+
+ETHANOL = ([(6, 0, 0, 3, 0), (6, 0, 0, 2, 0), (8, 0, 0, 1, 0)], [(0, 1, 1), (1, 2, 1)])
+BENZENE = ([(6, 0, 0, 1, 0)] * 6,
+           [(0, 1, 1), (0, 5, 2), (1, 2, 2), (2, 3, 1), (3, 4, 2), (4, 5, 1)])
 
 # How long a person would wait, in seconds; the calls are meant to take far less.
 PATIENCE = 5
@@ -24,6 +30,12 @@ def book_form(entries):
     for entry in entries:
         form += entry_bytes(*entry)
     return form
+
+
+def greatest_book():
+    """As many entries as a book may have, of the greatest elements and masses."""
+    pairs = list(itertools.product(range(1, 119), range(501)))
+    return [(element, isotope, MOST_MASS) for element, isotope in pairs[-4096:]]
 
 
 def atom(element=6, isotope=0, charge=0, hydrogens=0, hand=0):
@@ -50,8 +62,8 @@ def bond_place(atoms, number, within=0):
     return 6 + 6 * atoms + 4 * number + within
 
 
-def faulty(rule, place):
-    return [-5, 0, rule, place]
+def faulty(rule, place, which=0):
+    return [-5, which, rule, place]
 
 
 def redrawings(atoms, bonds):
@@ -125,8 +137,55 @@ def formula_told(atoms, bonds):
     return [0, len(row)] + row
 
 
-def timed(call, argument):
+def timed(call, *arguments):
     """What a call answers, and how many seconds it took."""
     start = time.perf_counter()
-    answer = call(argument)
+    answer = call(*arguments)
     return answer, time.perf_counter() - start
+
+
+def copied(arguments):
+    return [list(argument) if isinstance(argument, list) else argument for argument in arguments]
+
+
+def assert_like_the_first_time(test, calls):
+    """Each call, a row of a function and its arguments, changes none of these and answers as before.
+
+    Between the first time and the second all the other calls are made.
+    """
+    first = []
+    for call, *arguments in calls:
+        before = copied(arguments)
+        answer = call(*arguments)
+        test.assertEqual(arguments, before)
+        first.append(list(answer))
+        # The caller may do with an answer what it likes.
+        answer.append(7)
+    for (call, *arguments), told in zip(calls, first):
+        before = copied(arguments)
+        test.assertEqual(call(*arguments), told)
+        test.assertEqual(arguments, before)
+
+
+def assert_plain(test, answer):
+    """An answer is a list of whole numbers, none of them True or False."""
+    test.assertIs(type(answer), list)
+    for number in answer:
+        test.assertIs(type(number), int)
+
+
+def renumbered(molecule, numbers):
+    """The molecule with atom k called numbers[k]; it has no hands, and no sides."""
+    atoms, bonds = molecule
+    moved = [None] * len(atoms)
+    for old, new in enumerate(numbers):
+        moved[new] = atoms[old]
+    pairs = [sorted((numbers[a], numbers[b])) + [order] for a, b, order in bonds]
+    return moved, [tuple(bond) for bond in sorted(pairs)]
+
+
+def beside(one, other):
+    """Both molecules as one, not joined by any bond."""
+    shift = len(one[0])
+    moved = [(bond[0] + shift, bond[1] + shift) + tuple(bond[2:]) for bond in other[1]]
+    return list(one[0]) + list(other[0]), list(one[1]) + moved

@@ -1,16 +1,12 @@
 import itertools
 import unittest
 
-from tests.helper import BOOK_MARK, PATIENCE, book_form, entry_bytes, faulty, low_first, timed
+from tests.helper import (
+    BOOK_MARK, MOST_MASS, PATIENCE, assert_like_the_first_time, assert_plain, book_form, entry_bytes, faulty,
+    greatest_book, low_first, timed)
 from wholeamounts import desk
 
-MOST_MASS = 2 ** 40
 SEVERAL = [(1, 0, 1008), (1, 2, 2014), (6, 0, 12011), (6, 13, 13003), (118, 500, MOST_MASS)]
-
-
-def greatest_book():
-    pairs = list(itertools.product(range(1, 119), range(501)))
-    return [(element, isotope, MOST_MASS) for element, isotope in pairs[-4096:]]
 
 
 class Ordinary(unittest.TestCase):
@@ -33,10 +29,7 @@ class Ordinary(unittest.TestCase):
 
     def test_kinds(self):
         for form in (book_form(SEVERAL), []):
-            answer = desk.book(form)
-            self.assertIs(type(answer), list)
-            for number in answer:
-                self.assertIs(type(number), int)
+            assert_plain(self, desk.book(form))
 
 
 class Mark(unittest.TestCase):
@@ -180,15 +173,8 @@ class Calling(unittest.TestCase):
 
     def test_handed_in_stays_and_nothing_is_kept(self):
         good = book_form(SEVERAL)
-        for form in (good, good[:-1], good + [1], []):
-            before = list(form)
-            first = desk.book(form)
-            first_copy = list(first)
-            first.append(7)
-            desk.book(good)
-            desk.book([1, 2, 3])
-            self.assertEqual(form, before)
-            self.assertEqual(desk.book(form), first_copy)
+        forms = [good, good[:-1], good + [1], []]
+        assert_like_the_first_time(self, [(desk.book, form) for form in forms])
 
 
 if __name__ == "__main__":

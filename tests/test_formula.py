@@ -2,12 +2,10 @@ import random
 import unittest
 
 from tests.helper import (
-    MOLECULE_MARK, PATIENCE, atom, faulty, formula_told, hand_place, molecule_form, redrawings, timed)
+    BENZENE, ETHANOL, MOLECULE_MARK, PATIENCE, assert_like_the_first_time, assert_plain, atom, beside, faulty,
+    formula_told, hand_place, molecule_form, redrawings, renumbered, timed)
 from wholeamounts import desk
 
-ETHANOL = ([atom(6, hydrogens=3), atom(6, hydrogens=2), atom(8, hydrogens=1)], [(0, 1, 1), (1, 2, 1)])
-BENZENE = ([atom(6, hydrogens=1)] * 6,
-           [(0, 1, 1), (0, 5, 2), (1, 2, 2), (2, 3, 1), (3, 4, 2), (4, 5, 1)])
 ALANINE = ([atom(6, hydrogens=3), atom(6, hydrogens=1, hand=1), atom(7, hydrogens=2), atom(6), atom(8),
             atom(8, hydrogens=1)],
            [(0, 1, 1), (1, 2, 1), (1, 3, 1), (3, 4, 2), (3, 5, 1)])
@@ -17,23 +15,6 @@ BUTENE = ([atom(6, hydrogens=3), atom(6, hydrogens=1), atom(6, hydrogens=1), ato
 
 def formula(molecule):
     return desk.formula(molecule_form(*molecule))
-
-
-def renumbered(molecule, numbers):
-    """The molecule with atom k called numbers[k]; it has no hands, and no sides."""
-    atoms, bonds = molecule
-    moved = [None] * len(atoms)
-    for old, new in enumerate(numbers):
-        moved[new] = atoms[old]
-    pairs = [sorted((numbers[a], numbers[b])) + [order] for a, b, order in bonds]
-    return moved, [tuple(bond) for bond in sorted(pairs)]
-
-
-def beside(one, other):
-    """Both molecules as one, not joined by any bond."""
-    shift = len(one[0])
-    moved = [(bond[0] + shift, bond[1] + shift) + tuple(bond[2:]) for bond in other[1]]
-    return list(one[0]) + list(other[0]), list(one[1]) + moved
 
 
 def counts_of(answer):
@@ -94,10 +75,7 @@ class Ordinary(unittest.TestCase):
 
     def test_kinds(self):
         for form in (molecule_form(*ALANINE), []):
-            answer = desk.formula(form)
-            self.assertIs(type(answer), list)
-            for number in answer:
-                self.assertIs(type(number), int)
+            assert_plain(self, desk.formula(form))
 
 
 class HoweverDrawn(unittest.TestCase):
@@ -164,15 +142,8 @@ class Calling(unittest.TestCase):
         good = molecule_form(*ALANINE)
         bad_hand = list(good)
         bad_hand[hand_place(0)] = 1
-        for form in (good, good[:-1], good + [1], bad_hand, molecule_form(*BUTENE), [], MOLECULE_MARK + [0, 0]):
-            before = list(form)
-            first = desk.formula(form)
-            first_copy = list(first)
-            first.append(7)
-            desk.formula(molecule_form(*BENZENE))
-            desk.formula([1, 2, 3])
-            self.assertEqual(form, before)
-            self.assertEqual(desk.formula(form), first_copy)
+        forms = [good, good[:-1], good + [1], bad_hand, molecule_form(*BUTENE), [], MOLECULE_MARK + [0, 0]]
+        assert_like_the_first_time(self, [(desk.formula, form) for form in forms])
 
 
 if __name__ == "__main__":

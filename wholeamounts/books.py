@@ -1,6 +1,7 @@
 """Books: the masses that a caller gives to each element and isotope."""
 
-from wholeamounts.reading import MOST_ELEMENT, MOST_ISOTOPE, NOT_BEHIND, Fault, Reader
+from wholeamounts.reading import MOST_ELEMENT, MOST_ISOTOPE, NOT_BEHIND, Reader
+from wholeamounts.refusals import Fault
 
 MARK = (70, 75, 69, 49)
 MOST_ENTRIES = 4096

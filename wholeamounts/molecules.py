@@ -1,8 +1,8 @@
 """Molecules: their atoms and bonds, read from a form that must be well made."""
 
-from wholeamounts.reading import (
-    MOST_ELEMENT, MOST_ISOTOPE, NOT_BEHIND, WRONG_HAND, WRONG_SIDE, Fault, Reader)
+from wholeamounts.reading import MOST_ELEMENT, MOST_ISOTOPE, NOT_BEHIND, WRONG_HAND, WRONG_SIDE, Reader
 from wholeamounts.redrawing import is_fixed_double
+from wholeamounts.refusals import Fault
 
 MARK = (70, 75, 77, 49)
 MOST_ATOMS = 128

@@ -1,5 +1,7 @@
 """Forms are read here, number by number from front to back."""
 
+from wholeamounts.refusals import Fault
+
 WRONG_MARK = 1
 OUT_OF_BOUNDS = 2
 NOT_BEHIND = 3
@@ -10,14 +12,6 @@ LEFT_OVER = 7
 
 MOST_ELEMENT = 118
 MOST_ISOTOPE = 500
-
-
-class Fault(Exception):
-    """A form is faulty: by which rule, and at which place in its bytes."""
-
-    def __init__(self, rule, place):
-        self.rule = rule
-        self.place = place
 
 
 class Reader:
