@@ -5,7 +5,9 @@ import time
 
 BOOK_MARK = [70, 75, 69, 49]
 MOLECULE_MARK = [70, 75, 77, 49]
+EQUATION_MARK = [70, 75, 81, 49]
 MOST_MASS = 2 ** 40
+LAST = 2 ** 64 - 1
 
 ETHANOL = ([(6, 0, 0, 3, 0), (6, 0, 0, 2, 0), (8, 0, 0, 1, 0)], [(0, 1, 1), (1, 2, 1)])
 BENZENE = ([(6, 0, 0, 1, 0)] * 6,
@@ -50,6 +52,24 @@ def molecule_form(atoms, bonds=()):
     for bond in bonds:
         form += list(bond) + [0] * (4 - len(bond))
     return form
+
+
+def equation_form(left, right):
+    """An equation's form; each molecule is given by its own form."""
+    form = EQUATION_MARK + [len(left), len(right)]
+    for molecule in left + right:
+        form += low_first(len(molecule), 2) + molecule
+    return form
+
+
+def molecule_places(molecules):
+    """Where the forms of an equation's molecules begin."""
+    places = []
+    place = 6
+    for molecule in molecules:
+        places.append(place + 2)
+        place += 2 + len(molecule)
+    return places
 
 
 def hand_place(number):

@@ -7,7 +7,7 @@ from tests.helper import (
     PATIENCE, atom, bond_place, faulty, formula_told, hand_place, is_fixed, molecule_form, redrawings, timed)
 from wholeamounts import desk
 from wholeamounts.molecules import Bond
-from wholeamounts.redrawing import is_fixed_double
+from wholeamounts.redrawing import is_fixed_double, ways_at
 
 
 def with_side(bonds, number, side=1):
@@ -191,10 +191,11 @@ class ByBruteForce(unittest.TestCase):
             count, bonds = self.drawn(source, 12, 16)
             rows = redrawings(count, bonds)
             read = [Bond(a, b, order, 0) for a, b, order in bonds]
+            ways = ways_at(count, read)
             for number, bond in enumerate(bonds):
                 if bond[2] == 2:
                     fixed = all(orders[number] == 2 for orders in rows)
-                    self.assertEqual(is_fixed_double(read, number), fixed, (bonds, number))
+                    self.assertEqual(is_fixed_double(ways, read, number), fixed, (bonds, number))
                     seen[fixed] += 1
         self.assertGreater(min(seen.values()), 1000)
 
@@ -243,7 +244,7 @@ class GreatMolecules(unittest.TestCase):
         bonds += [(k, k + 1, 2, 1) for k in range(1, 127, 2)]
         told, seconds = timed(desk.formula, molecule_form([atom()] * 128, sorted(bonds)))
         self.assertEqual(told, [0, 3, 6, 0, 128])
-        self.assertLess(seconds, 4 * PATIENCE)
+        self.assertLess(seconds, PATIENCE)
         # One ring that can take it: now each of the others can be otherwise.
         bonds = [(0, k, 2 if k in (1, 2) else 1) for k in range(1, 128)]
         bonds += [(1, 2, 1)] + [(k, k + 1, 2) for k in range(3, 127, 2)]

@@ -4,8 +4,9 @@ import unittest
 from fractions import Fraction
 
 from tests.helper import (
-    BENZENE, BOOK_MARK, ETHANOL, MOLECULE_MARK, MOST_MASS, PATIENCE, assert_like_the_first_time, assert_plain, atom,
-    beside, book_form, entry_bytes, faulty, greatest_book, molecule_form, redrawings, renumbered, timed)
+    BENZENE, BOOK_MARK, ETHANOL, LAST, MOLECULE_MARK, MOST_MASS, PATIENCE, assert_like_the_first_time,
+    assert_plain, atom, beside, book_form, entry_bytes, faulty, greatest_book, molecule_form, redrawings, renumbered,
+    timed)
 from wholeamounts import desk
 
 # More entries than any molecule here needs.
@@ -15,7 +16,6 @@ MASSES = {entry[:2]: entry[2] for entry in ENTRIES}
 WATER = ([atom(8, hydrogens=2)], [])
 NOTHING = ([], [])
 HEAVY = ([atom(6, 13, hydrogens=1), atom(1, 2), atom(1), atom(6, hydrogens=2)], [(0, 1, 1), (0, 2, 1), (0, 3, 1)])
-LAST = 2 ** 64 - 1
 
 
 def mass(molecule, book=BOOK):

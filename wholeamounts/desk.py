@@ -1,16 +1,19 @@
 """The calls. Each takes forms and numbers and answers one list of whole numbers."""
 
 from wholeamounts.books import read_book
+from wholeamounts.equations import read_equation
 from wholeamounts.formulas import formula_row
 from wholeamounts.masses import mass_of, share_of
 from wholeamounts.molecules import read_molecule
 from wholeamounts.reading import MOST_ELEMENT
-from wholeamounts.refusals import Fault, NotThere, WrongNumbers
+from wholeamounts.refusals import Fault, NotThere, TooGreat, WrongNumbers
+from wholeamounts.terms import MOST_TOLD, least_ratio, paired, refuse_above
 
 ANSWERED = 0
 WRONG_NUMBERS = -1
 NOT_THERE = -2
 FAULTY_FORM = -5
+TOO_GREAT = -6
 
 
 def book(entries):
@@ -48,6 +51,30 @@ def tell_share(element, entries, molecule):
     return list(share_of(element, drawn, listed))
 
 
+def ratio(fractions):
+    """The least whole numbers that stand to one another as fractions above 0 do."""
+    return answer(lambda: tell_ratio(fractions))
+
+
+def tell_ratio(fractions):
+    amounts = paired(fractions)
+    if (0, 1) in amounts:
+        raise WrongNumbers()
+    wholes = least_ratio(amounts)
+    refuse_above(MOST_TOLD, wholes)
+    return row(wholes)
+
+
+def equation(sides):
+    """How many molecules an equation has on the left, on the right."""
+    return answer(lambda: tell_equation(sides))
+
+
+def tell_equation(sides):
+    read = read_equation(sides)
+    return [len(read.left), len(read.right)]
+
+
 def answer(tell):
     """What is told, or the refusal that it ends in."""
     try:
@@ -58,6 +85,8 @@ def answer(tell):
         return [WRONG_NUMBERS]
     except NotThere:
         return [NOT_THERE]
+    except TooGreat:
+        return [TOO_GREAT]
 
 
 def row(numbers):

@@ -1,7 +1,7 @@
 """Molecules: their atoms and bonds, read from a form that must be well made."""
 
 from wholeamounts.reading import MOST_ELEMENT, MOST_ISOTOPE, NOT_BEHIND, WRONG_HAND, WRONG_SIDE, Reader
-from wholeamounts.redrawing import is_fixed_double
+from wholeamounts.redrawing import is_fixed_double, ways_at
 from wholeamounts.refusals import Fault
 
 MARK = (70, 75, 77, 49)
@@ -119,12 +119,13 @@ def may_have_hand(atom, neighbours):
 
 def refuse_wrong_sides(molecule, neighbours):
     first_bond = HEAD_SIZE + ATOM_SIZE * len(molecule.atoms)
+    ways = ways_at(len(molecule.atoms), molecule.bonds)
     for k, bond in enumerate(molecule.bonds):
-        if bond.side != 0 and not may_have_side(molecule, k, neighbours):
+        if bond.side != 0 and not may_have_side(molecule, k, neighbours, ways):
             raise Fault(WRONG_SIDE, first_bond + BOND_SIZE * k + BOND_SIZE - 1)
 
 
-def may_have_side(molecule, k, neighbours):
+def may_have_side(molecule, k, neighbours, ways):
     bond = molecule.bonds[k]
     if bond.order != 2:
         return False
@@ -132,7 +133,7 @@ def may_have_side(molecule, k, neighbours):
         if not may_end_a_side(molecule.atoms[end], neighbours[end] - 1):
             return False
     # Asked last, since it looks at the whole molecule.
-    return is_fixed_double(molecule.bonds, k)
+    return is_fixed_double(ways, molecule.bonds, k)
 
 
 def may_end_a_side(atom, others):

@@ -30,18 +30,23 @@ class Reader:
                 raise Fault(WRONG_MARK, self.place)
             self.place += 1
 
+    def take(self, size):
+        """Read that many bytes as they are."""
+        end = self.place + size
+        if end > len(self.form):
+            raise Fault(ENDS_EARLY, len(self.form))
+        taken = self.form[self.place:end]
+        self.place = end
+        return taken
+
     def number(self, size, least, most):
         """Read a number of that many bytes, the lowest first, and judge it when all of them are there."""
         start = self.place
-        end = start + size
-        if end > len(self.form):
-            raise Fault(ENDS_EARLY, len(self.form))
         value = 0
-        for byte in reversed(self.form[start:end]):
+        for byte in reversed(self.take(size)):
             value = value * 256 + byte
         if value < least or value > most:
             raise Fault(OUT_OF_BOUNDS, start)
-        self.place = end
         return value
 
     def finish(self):

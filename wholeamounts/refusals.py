@@ -16,3 +16,7 @@ class WrongNumbers(Exception):
 
 class NotThere(Exception):
     """What is asked for is not there."""
+
+
+class TooGreat(Exception):
+    """A number that would be told is too great."""
