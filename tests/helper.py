@@ -54,6 +54,52 @@ def molecule_form(atoms, bonds=()):
     return form
 
 
+def molecule_of(units, hydrogens=0, charge=0):
+    """The form of a molecule without bonds: so many atoms of each (element, isotope), which share what else it has."""
+    atoms = []
+    for (element, isotope), count in units.items():
+        for _ in range(count):
+            hanging = min(7, hydrogens)
+            part = max(-4, min(4, charge))
+            hydrogens -= hanging
+            charge -= part
+            atoms.append(atom(element, isotope, part, hanging))
+    assert hydrogens == 0 and charge == 0
+    return molecule_form(atoms)
+
+
+def ion(element, charge):
+    return molecule_form([atom(element, charge=charge)])
+
+
+NOTHING = MOLECULE_MARK + [0, 0]
+HYDROGEN = molecule_form([atom(1, hydrogens=1)])
+OXYGEN = molecule_form([atom(8), atom(8)], [(0, 1, 2)])
+WATER = molecule_form([atom(8, hydrogens=2)])
+CARBON = molecule_form([atom(6)])
+METHANE = molecule_form([atom(6, hydrogens=4)])
+CARBON_MONOXIDE = molecule_form([atom(6), atom(8)], [(0, 1, 3)])
+CARBON_DIOXIDE = molecule_form([atom(6), atom(8), atom(8)], [(0, 1, 2), (0, 2, 2)])
+PERMANGANATE = molecule_of({(25, 0): 1, (8, 0): 4}, charge=-1)
+
+# A faulty molecule by each rule of molecules' forms, with the place in its own bytes.
+FAULTY_MOLECULES = [
+    ([70, 75, 81, 49, 0, 0], 1, 2),
+    (MOLECULE_MARK + [129, 0], 2, 4),
+    (molecule_form([atom(119)]), 2, 6),
+    (molecule_form([atom(6, 501)]), 2, 7),
+    (molecule_form([atom(), atom()], [(0, 1, 4)]), 2, 20),
+    (molecule_form([atom()] * 3, [(0, 2, 1), (0, 1, 1)]), 3, 28),
+    (molecule_form([atom(), atom(hand=2)]), 4, 17),
+    ([], 5, 0),
+    (MOLECULE_MARK, 5, 4),
+    (WATER[:-1], 5, 11),
+    (molecule_form([atom()] * 3, [(0, 1, 1), (1, 2, 1, 2)]), 6, 31),
+    (WATER + [0], 7, 12),
+    (NOTHING + WATER, 7, 6),
+]
+
+
 def equation_form(left, right):
     """An equation's form; each molecule is given by its own form."""
     form = EQUATION_MARK + [len(left), len(right)]
@@ -84,6 +130,51 @@ def bond_place(atoms, number, within=0):
 
 def faulty(rule, place, which=0):
     return [-5, which, rule, place]
+
+
+def content(molecule):
+    """What numbers must keep: a molecule's units and, as the unit (0, 0), its charge; it is given by its form."""
+    counts = {(0, 0): 0}
+    for k in range(molecule[4]):
+        element, low, high, charge, hydrogens, _ = molecule[6 + 6 * k:12 + 6 * k]
+        counts[(0, 0)] += charge - 4
+        for unit, count in (((element, low + 256 * high), 1), ((1, 0), hydrogens)):
+            if count:
+                counts[unit] = counts.get(unit, 0) + count
+    return counts
+
+
+def surpluses(left, right, numbers):
+    """By each unit, and by (0, 0) for charges, how much more of it is on the left than on the right."""
+    sums = {}
+    for k, molecule in enumerate(left + right):
+        for unit, count in content(molecule).items():
+            sums[unit] = sums.get(unit, 0) + (1 if k < len(left) else -1) * count * numbers[k]
+    return sums
+
+
+def are_balanced(left, right, numbers):
+    return min(numbers) >= 1 and not any(surpluses(left, right, numbers).values())
+
+
+def rows_of_sum(count, total):
+    """All rows of so many numbers of at least 1 with a sum, the first row first."""
+    for bars in itertools.combinations(range(1, total), count - 1):
+        yield [high - low for low, high in zip((0,) + bars, bars + (total,))]
+
+
+def least_by_trying(left, right, most):
+    """The least balanced numbers of a sum of at most that, found by going through all rows; or None."""
+    count = len(left + right)
+    contents = [content(molecule) for molecule in left + right]
+    units = sorted({unit for counts in contents for unit in counts})
+    signed = [[(1 if k < len(left) else -1) * counts.get(unit, 0) for k, counts in enumerate(contents)]
+              for unit in units]
+    for total in range(count, most + 1):
+        for numbers in rows_of_sum(count, total):
+            if not any(sum(map(int.__mul__, row, numbers)) for row in signed):
+                return numbers
+    return None
 
 
 def redrawings(atoms, bonds):

@@ -3,37 +3,16 @@ import random
 import unittest
 
 from tests.helper import (
-    BENZENE, EQUATION_MARK, ETHANOL, MOLECULE_MARK, PATIENCE, assert_like_the_first_time, assert_plain, atom,
-    equation_form, faulty, low_first, molecule_form, molecule_places, timed)
+    BENZENE, EQUATION_MARK, ETHANOL, FAULTY_MOLECULES, HYDROGEN, NOTHING, OXYGEN, PATIENCE, WATER,
+    assert_like_the_first_time, assert_plain, atom, equation_form, faulty, low_first, molecule_form, molecule_places,
+    timed)
 from wholeamounts import desk
 
-WATER = molecule_form([atom(8, hydrogens=2)])
-HYDROGEN = molecule_form([atom(1, hydrogens=1)])
-OXYGEN = molecule_form([atom(8), atom(8)], [(0, 1, 2)])
-NOTHING = MOLECULE_MARK + [0, 0]
 GOOD = equation_form([HYDROGEN, OXYGEN], [WATER])
 
 
 def equation(left, right):
     return desk.equation(equation_form(left, right))
-
-
-# A faulty molecule by each rule of molecules' forms, with the place in its own bytes.
-FAULTY_MOLECULES = [
-    ([70, 75, 81, 49, 0, 0], 1, 2),
-    (MOLECULE_MARK + [129, 0], 2, 4),
-    (molecule_form([atom(119)]), 2, 6),
-    (molecule_form([atom(6, 501)]), 2, 7),
-    (molecule_form([atom(), atom()], [(0, 1, 4)]), 2, 20),
-    (molecule_form([atom()] * 3, [(0, 2, 1), (0, 1, 1)]), 3, 28),
-    (molecule_form([atom(), atom(hand=2)]), 4, 17),
-    ([], 5, 0),
-    (MOLECULE_MARK, 5, 4),
-    (WATER[:-1], 5, 11),
-    (molecule_form([atom()] * 3, [(0, 1, 1), (1, 2, 1, 2)]), 6, 31),
-    (WATER + [0], 7, 12),
-    (NOTHING + WATER, 7, 6),
-]
 
 
 class Ordinary(unittest.TestCase):

@@ -127,6 +127,79 @@ class Statements(unittest.TestCase):
             self.assertEqual(len(names), len(set(names)), path)
 
 
+WALKED = ["zip", "enumerate", "reversed", "range", "items", "keys", "values"]
+WALKERS = ["list", "tuple", "dict", "sorted", "sum", "any", "all", "enumerate", "zip", "min", "max", "join"]
+
+
+def called_name(node):
+    """The name of what is called, or nothing where it has none."""
+    if not isinstance(node, ast.Call):
+        return ""
+    return getattr(node.func, "id", getattr(node.func, "attr", ""))
+
+
+class Walks(unittest.TestCase):
+    def test_walked_at_once(self):
+        for path, tree in trees().items():
+            for parent in ast.walk(tree):
+                for child in ast.iter_child_nodes(parent):
+                    if called_name(child) in WALKED:
+                        self.assertTrue(self.is_walked(parent, child), (path, child.lineno))
+
+    def is_walked(self, parent, child):
+        if isinstance(parent, (ast.For, ast.comprehension)):
+            return parent.iter is child
+        if called_name(parent) in ("min", "max"):
+            return len(parent.args) == 1
+        if called_name(parent) == "zip":
+            return child in parent.args
+        return called_name(parent) in WALKERS and parent.args[0] is child
+
+    def test_what_is_walked_is_not_changed(self):
+        changing = ("append", "clear", "extend", "insert", "pop", "remove", "reverse", "setdefault", "update")
+        for path, loop in nodes(ast.For):
+            walked = [ast.unparse(node) for node in ast.walk(loop.iter) if isinstance(node, (ast.Name, ast.Attribute))]
+            if not isinstance(loop.iter, (ast.Name, ast.Attribute)) and called_name(loop.iter) not in WALKED:
+                continue
+            for node in [inner for statement in loop.body for inner in ast.walk(statement)]:
+                if isinstance(node, ast.Call) and isinstance(node.func, ast.Attribute) and node.func.attr in changing:
+                    self.assertNotIn(ast.unparse(node.func.value), walked, (path, node.lineno))
+
+    def test_sets_stand_where_they_may(self):
+        for path, node in nodes(ast.Call):
+            self.assertNotIn(called_name(node), ("set", "frozenset"), (path, node.lineno))
+
+
+class Calls(unittest.TestCase):
+    def test_keywords(self):
+        free = {"sorted": ("key", "reverse"), "min": ("key", "default"), "max": ("key", "default"),
+                "sum": ("start",), "enumerate": ("start",), "zip": ("strict",)}
+        for path, node in nodes(ast.Call):
+            for keyword in node.keywords:
+                self.assertIn(keyword.arg, free.get(called_name(node), ()), (path, node.lineno))
+
+    def test_powers(self):
+        for path, node in nodes(ast.BinOp):
+            self.assertNotIsInstance(node.op, ast.Pow, (path, node.lineno))
+
+    def test_one_plain_target(self):
+        for path, node in nodes((ast.Assign, ast.AugAssign)):
+            targets = node.targets if isinstance(node, ast.Assign) else [node.target]
+            for target in targets:
+                self.assertIsInstance(target, (ast.Name, ast.Attribute, ast.Subscript), (path, node.lineno))
+
+    def test_locals_are_not_called_like_classes_or_imports(self):
+        for path, tree in trees().items():
+            taken = [alias.name for node in tree.body if isinstance(node, ast.ImportFrom) for alias in node.names]
+            taken += [node.name for node in tree.body if isinstance(node, (ast.ClassDef, ast.FunctionDef))]
+            for function in [node for node in ast.walk(tree) if isinstance(node, (ast.FunctionDef, ast.Lambda))]:
+                for node in ast.walk(function):
+                    if isinstance(node, ast.arg):
+                        self.assertNotIn(node.arg, taken, (path, function.lineno))
+                    if isinstance(node, ast.Name) and isinstance(node.ctx, ast.Store):
+                        self.assertNotIn(node.id, taken, (path, node.lineno))
+
+
 class Names(unittest.TestCase):
     def test_python_s_own(self):
         for path, node in nodes(ast.Name):

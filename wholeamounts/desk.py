@@ -1,8 +1,10 @@
 """The calls. Each takes forms and numbers and answers one list of whole numbers."""
 
+from wholeamounts.balance import Balance, kept_row, refuse_numbers
 from wholeamounts.books import read_book
 from wholeamounts.equations import read_equation
 from wholeamounts.formulas import formula_row
+from wholeamounts.least import least_balanced
 from wholeamounts.masses import mass_of, share_of
 from wholeamounts.molecules import read_molecule
 from wholeamounts.reading import MOST_ELEMENT
@@ -14,6 +16,8 @@ WRONG_NUMBERS = -1
 NOT_THERE = -2
 FAULTY_FORM = -5
 TOO_GREAT = -6
+
+MOST_LEAST = 4294967295
 
 
 def book(entries):
@@ -73,6 +77,28 @@ def equation(sides):
 def tell_equation(sides):
     read = read_equation(sides)
     return [len(read.left), len(read.right)]
+
+
+def kept(sides, numbers):
+    """Whether numbers for an equation are balanced, or what is not kept first."""
+    return answer(lambda: tell_kept(sides, numbers))
+
+
+def tell_kept(sides, numbers):
+    read = read_equation(sides)
+    refuse_numbers(read, numbers)
+    return kept_row(read, numbers)
+
+
+def least(sides):
+    """The least balanced numbers for an equation."""
+    return answer(lambda: tell_least(sides))
+
+
+def tell_least(sides):
+    numbers = least_balanced(Balance(read_equation(sides)))
+    refuse_above(MOST_LEAST, numbers)
+    return row(numbers)
 
 
 def answer(tell):
