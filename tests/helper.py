@@ -177,6 +177,30 @@ def least_by_trying(left, right, most):
     return None
 
 
+def drawn_molecule(source, kinds, most_atoms, most_hydrogens, most_charge):
+    atoms = []
+    for _ in range(source.randint(0, most_atoms)):
+        charge = source.randint(-most_charge, most_charge)
+        atoms.append(atom(*source.choice(kinds), charge, source.randint(0, most_hydrogens)))
+    return molecule_form(atoms)
+
+
+def drawn_sides(source, *measures):
+    left = [drawn_molecule(source, *measures) for _ in range(source.randint(1, 3))]
+    right = [drawn_molecule(source, *measures) for _ in range(source.randint(1, 3))]
+    return left, right
+
+
+def flat(fractions):
+    """The numbers of fractions that are pairs."""
+    return [number for fraction in fractions for number in fraction]
+
+
+def fractions_told(row):
+    """How a row of Python's own fractions is told."""
+    return [0, 2 * len(row)] + flat((fraction.numerator, fraction.denominator) for fraction in row)
+
+
 def redrawings(atoms, bonds):
     """All rows of orders that give each of so many atoms its sum; a bond is (a, b, order, ..)."""
     left = [0] * atoms

@@ -6,8 +6,8 @@ from unittest import mock
 
 from tests.helper import (
     CARBON, CARBON_DIOXIDE, CARBON_MONOXIDE, FAULTY_MOLECULES, HYDROGEN, METHANE, NOTHING, OXYGEN, PATIENCE,
-    PERMANGANATE, WATER, are_balanced, assert_like_the_first_time, assert_plain, atom, equation_form, faulty, ion,
-    least_by_trying, molecule_form, molecule_of, molecule_places, timed)
+    PERMANGANATE, WATER, are_balanced, assert_like_the_first_time, assert_plain, atom, drawn_molecule, drawn_sides,
+    equation_form, faulty, ion, least_by_trying, molecule_form, molecule_of, molecule_places, timed)
 from wholeamounts import desk
 
 H, C, N, O = (1, 0), (6, 0), (7, 0), (8, 0)
@@ -24,20 +24,6 @@ def hydrogens(count, charge):
     """So many units of hydrogen, of which 6 at most are atoms, with a charge."""
     atoms = min(6, count)
     return molecule_of({H: atoms}, count - atoms, charge)
-
-
-def drawn_molecule(source, kinds, most_atoms, most_hydrogens, most_charge):
-    atoms = []
-    for _ in range(source.randint(0, most_atoms)):
-        charge = source.randint(-most_charge, most_charge)
-        atoms.append(atom(*source.choice(kinds), charge, source.randint(0, most_hydrogens)))
-    return molecule_form(atoms)
-
-
-def drawn_sides(source, *measures):
-    left = [drawn_molecule(source, *measures) for _ in range(source.randint(1, 3))]
-    right = [drawn_molecule(source, *measures) for _ in range(source.randint(1, 3))]
-    return left, right
 
 
 class OneWay(unittest.TestCase):

@@ -79,3 +79,13 @@ def some_balanced(balance):
     if 0 in numbers:
         raise NotThere()
     return numbers
+
+
+def is_only_way(balance):
+    """Whether all balanced numbers are multiples of the least ones, or a refusal where there are none.
+
+    They are if a basis of one row is enough. If it takes more, balanced numbers can be taken so many times that
+    all are still above 0 when any row of the lattice is added, also one that is none of their multiples.
+    """
+    some_balanced(balance)
+    return len(balance.basis) == 1

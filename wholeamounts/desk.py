@@ -1,6 +1,7 @@
 """The calls. Each takes forms and numbers and answers one list of whole numbers."""
 
-from wholeamounts.balance import Balance, kept_row, refuse_numbers
+from wholeamounts.amounts import most_row
+from wholeamounts.balance import Balance, is_only_way, kept_row, refuse_numbers
 from wholeamounts.books import read_book
 from wholeamounts.equations import read_equation
 from wholeamounts.formulas import formula_row
@@ -101,6 +102,26 @@ def tell_least(sides):
     return row(numbers)
 
 
+def only(sides):
+    """Whether all balanced numbers for an equation are the least's multiples."""
+    return answer(lambda: tell_only(sides))
+
+
+def tell_only(sides):
+    return [1 if is_only_way(Balance(read_equation(sides))) else 0]
+
+
+def most(sides, numbers, fractions):
+    """How far it goes with given amounts, what runs out, what's left and what's made: fractions."""
+    return answer(lambda: tell_most(sides, numbers, fractions))
+
+
+def tell_most(sides, numbers, fractions):
+    read = read_equation(sides)
+    refuse_numbers(read, numbers)
+    return fraction_row(most_row(read, numbers, paired(fractions)))
+
+
 def answer(tell):
     """What is told, or the refusal that it ends in."""
     try:
@@ -118,6 +139,15 @@ def answer(tell):
 def row(numbers):
     """A row is told with how many numbers it has ahead of it."""
     return [len(numbers)] + numbers
+
+
+def fraction_row(fractions):
+    """A row of fractions is told with two numbers for each."""
+    numbers = []
+    for fraction in fractions:
+        numbers.extend([fraction[0], fraction[1]])
+    refuse_above(MOST_TOLD, numbers)
+    return row(numbers)
 
 
 def read_second(molecule):

@@ -20,8 +20,25 @@ def lowest(numerator, denominator):
     return (numerator // divisor, denominator // divisor)
 
 
+def is_below(fraction, other):
+    return fraction[0] * other[1] < other[0] * fraction[1]
+
+
+def minus(fraction, other):
+    """A fraction less another one that is not above it."""
+    return lowest(fraction[0] * other[1] - other[0] * fraction[1], fraction[1] * other[1])
+
+
+def times(fraction, number):
+    return lowest(fraction[0] * number, fraction[1])
+
+
+def over(fraction, number):
+    return lowest(fraction[0], fraction[1] * number)
+
+
 def paired(numbers):
-    """The fractions of a row of two numbers each."""
+    """The fractions of a row that has two numbers for each."""
     if len(numbers) % 2 != 0:
         raise WrongNumbers()
     fractions = []
