@@ -1,4 +1,4 @@
-"""What runs out, what's left and what's made of given amounts."""
+"""What runs out, what's left and what's made of given amounts; what's wanted for an amount."""
 
 from wholeamounts.refusals import WrongNumbers
 from wholeamounts.terms import is_below, minus, over, times
@@ -24,3 +24,11 @@ def first_least(fractions):
         if is_below(fraction, fractions[least]):
             least = k
     return least
+
+
+def want_row(equation, numbers, j, amount):
+    """Of each molecule, what's wanted for so much of the j-th on the right."""
+    if j >= len(equation.right):
+        raise WrongNumbers()
+    far = over(amount, numbers[len(equation.left) + j])
+    return [times(far, number) for number in numbers]

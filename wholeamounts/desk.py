@@ -1,6 +1,6 @@
 """The calls. Each takes forms and numbers and answers one list of whole numbers."""
 
-from wholeamounts.amounts import most_row
+from wholeamounts.amounts import most_row, want_row
 from wholeamounts.balance import Balance, is_only_way, kept_row, refuse_numbers
 from wholeamounts.books import read_book
 from wholeamounts.equations import read_equation
@@ -10,7 +10,7 @@ from wholeamounts.masses import mass_of, share_of
 from wholeamounts.molecules import read_molecule
 from wholeamounts.reading import MOST_ELEMENT
 from wholeamounts.refusals import Fault, NotThere, TooGreat, WrongNumbers
-from wholeamounts.terms import MOST_TOLD, least_ratio, paired, refuse_above
+from wholeamounts.terms import MOST_TOLD, least_ratio, lowest, paired, refuse_above
 
 ANSWERED = 0
 WRONG_NUMBERS = -1
@@ -120,6 +120,20 @@ def tell_most(sides, numbers, fractions):
     read = read_equation(sides)
     refuse_numbers(read, numbers)
     return fraction_row(most_row(read, numbers, paired(fractions)))
+
+
+def want(j, numerator, denominator, sides, numbers):
+    """Of each molecule, what's wanted for a fraction of the j-th on the right (from 0): fractions."""
+    return answer(lambda: tell_want(j, numerator, denominator, sides, numbers))
+
+
+def tell_want(j, numerator, denominator, sides, numbers):
+    # Told before the form is looked at.
+    if denominator == 0:
+        raise WrongNumbers()
+    read = read_equation(sides)
+    refuse_numbers(read, numbers)
+    return fraction_row(want_row(read, numbers, j, lowest(numerator, denominator)))
 
 
 def answer(tell):
