@@ -20,9 +20,12 @@ FINENESS = 1000
 
 
 class Wall:
-    """What holds for a point if numbers at least 1 of a weight lie behind it: its slack is not below 0.
+    """What holds of a point if numbers of at least 1 and at most of a weight lie behind it: its slack is not below 0.
 
-    Behind a point lies what it becomes by the frame's rows that have not been tried yet.
+    Behind a point lies what it becomes by the frame's rows that have not been tried yet. A wall comes of an edge
+    with a number for each place and a last one, the share: the product of the edge with numbers, less the share
+    times their weight, is the same for all that lies behind a point as for the point itself. And where numbers are
+    at least 1, that product is at least the edge's total.
     """
 
     def __init__(self, edge, weights):
@@ -44,7 +47,7 @@ class Region:
         self.walls = walls_along(frame, weights)
 
     def seek(self, level, point):
-        """Numbers that lie behind a point, as many of the frame's rows not tried yet as the level says; or None."""
+        """Numbers of the region that lie behind a point, or None; the level says how many rows are not tried yet."""
         if level == 0:
             return point
         span = self.span(level, point, self.limit)
@@ -85,7 +88,10 @@ def outward(k):
 
 
 def walls_along(frame, weights):
-    """The walls of a region as seen along none, the first, the first two and so on of the frame's rows."""
+    """The walls of a region as seen along none, the first, the first two and so on of the frame's rows.
+
+    Seen along none, they are that each number is at least 1 and that the weight is at most the limit.
+    """
     edges = single_rows(len(weights) + 1)
     walls = [[Wall(edge, weights) for edge in edges]]
     for row in frame:
